@@ -6,14 +6,18 @@ import (
 	"strings"
 
 	"chorus/api"
+	"chorus/arrival"
+	"chorus/held"
 	"chorus/record"
 	"chorus/store"
+	"chorus/text"
 )
 
 // Replica is one of a group.
 type Replica struct {
 	replica, replicas int
 	store             *store.Store
+	held              held.Log
 	open              [api.MaxOpen]*transaction // by their numbers; nil where none is open
 }
 
@@ -42,7 +46,7 @@ func (r *Replica) Add(tx int, key string, amount int) api.Errno {
 	switch {
 	case t == nil:
 		return api.ErrOpen
-	case kindOf(key) != counter:
+	case record.ThingOf(key) != record.Counter:
 		return api.ErrKey
 	case amount < -api.MaxAmount || amount > api.MaxAmount:
 		return api.ErrValue
@@ -52,7 +56,7 @@ func (r *Replica) Add(tx int, key string, amount int) api.Errno {
 
 // Write writes to a register (P4).
 func (r *Replica) Write(tx int, key string, value string) api.Errno {
-	t, err := r.writer(tx, register, key, value)
+	t, err := r.writer(tx, record.Register, key, value)
 	if err != api.OK {
 		return err
 	}
@@ -70,20 +74,20 @@ func (r *Replica) Remove(tx int, key string, element string) api.Errno {
 }
 
 func (r *Replica) change(tx int, key, element string, kind record.Kind) api.Errno {
-	t, err := r.writer(tx, set, key, element)
+	t, err := r.writer(tx, record.Set, key, element)
 	if err != api.OK {
 		return err
 	}
 	return t.write(record.Place{Key: strings.Clone(key), Element: strings.Clone(element)}, record.Write{Kind: kind})
 }
 
-// writer finds the transaction that is to write a value to a key of that kind.
-func (r *Replica) writer(tx int, kind byte, key, value string) (*transaction, api.Errno) {
+// writer finds the transaction that is to write a value to a key of such a thing.
+func (r *Replica) writer(tx int, thing record.Thing, key, value string) (*transaction, api.Errno) {
 	t := r.find(tx)
 	switch {
 	case t == nil:
 		return nil, api.ErrOpen
-	case kindOf(key) != kind:
+	case record.ThingOf(key) != thing:
 		return nil, api.ErrKey
 	case len(value) > api.MaxValue:
 		return nil, api.ErrValue
@@ -97,12 +101,12 @@ func (r *Replica) Read(tx int, key string) (api.Value, api.Errno) {
 	if t == nil {
 		return api.Value{}, api.ErrOpen
 	}
-	switch kindOf(key) {
-	case counter:
+	switch record.ThingOf(key) {
+	case record.Counter:
 		return api.Value{Sum: t.sum(key)}, api.OK
-	case register:
+	case record.Register:
 		return api.Value{List: t.values(key)}, api.OK
-	case set:
+	case record.Set:
 		return api.Value{List: t.elements(key)}, api.OK
 	}
 	return api.Value{}, api.ErrKey
@@ -119,7 +123,7 @@ func (r *Replica) Commit(tx int) (api.Dot, api.Errno) {
 		return api.Dot{}, api.OK
 	}
 	dot := api.Dot{Replica: r.replica, Seq: r.store.Visible()[r.replica] + 1}
-	r.store.Apply(record.Transaction{Dot: dot, Saw: t.began.Saw(), Writes: t.own})
+	r.show(record.Transaction{Dot: dot, Saw: t.began.Saw(), Writes: t.own})
 	return dot, api.OK
 }
 
@@ -139,13 +143,32 @@ func (r *Replica) Visible() []int {
 }
 
 // Summary tells it in a text (P8).
-func (r *Replica) Summary() string { return "" }
+func (r *Replica) Summary() string {
+	return text.WriteSummary(r.replicas, r.head())
+}
 
 // Answer tells what a summary lacks (P8).
-func (r *Replica) Answer(summary string) (string, api.Errno) { return "", api.OK }
+func (r *Replica) Answer(summary string) (string, api.Errno) {
+	from, err := readText(text.ReadSummary, summary, r.replicas)
+	if err != api.OK {
+		return "", err
+	}
+	return text.WriteAnswer(r.replicas, text.Answer{Head: r.head(), Transactions: r.held.Beyond(from.Visible)}), api.OK
+}
 
 // Receive takes an answer (P9).
-func (r *Replica) Receive(answer string) api.Errno { return api.OK }
+func (r *Replica) Receive(answer string) api.Errno {
+	from, err := readText(text.ReadAnswer, answer, r.replicas)
+	if err != api.OK {
+		return err
+	}
+	for t := range arrival.InOrder(from.Transactions) {
+		if t.CanFollow(r.store.Visible()) {
+			r.show(t)
+		}
+	}
+	return api.OK
+}
 
 // Prune lets go of what all others have (P10).
 func (r *Replica) Prune() int { return 0 }
@@ -164,4 +187,28 @@ func (r *Replica) find(tx int) *transaction {
 func (r *Replica) end(tx int) {
 	r.open[tx].began.Close()
 	r.open[tx] = nil
+}
+
+func (r *Replica) head() text.Head {
+	return text.Head{Replica: r.replica, Visible: r.store.Visible()}
+}
+
+// show makes a transaction visible here.
+func (r *Replica) show(t record.Transaction) {
+	r.store.Apply(t)
+	r.held.Add(t)
+}
+
+// readText runs a reader of texts, and answers ErrText if it gives up.
+func readText[T any](reader func(words string, replicas int) T, words string, replicas int) (told T, err api.Errno) {
+	defer func() {
+		switch given := recover().(type) {
+		case nil:
+		case text.Fault:
+			err = api.ErrText
+		default:
+			panic(given)
+		}
+	}()
+	return reader(words, replicas), api.OK
 }

@@ -110,6 +110,12 @@ func read(visible []modelled, own modelled, key string) api.Value {
 var modelKeys = []string{"c", "c1", "r", "r1", "s", "s1"}
 var modelElements = []string{"", "a", "b", "\xff"}
 
+// sent is a text that is under way; it may be received never, or often.
+type sent struct {
+	words string
+	has   []modelled
+}
+
 // walk is one run of a group against the model.
 type walk struct {
 	t        *testing.T
@@ -117,6 +123,7 @@ type walk struct {
 	replicas []*Replica
 	open     []map[int]modelled
 	history  []modelled // in the order of the dots
+	texts    []sent
 }
 
 // pick is a fixed run of numbers, so that a failure can be had again.
@@ -206,37 +213,59 @@ func (w *walk) abort(i, tx int) {
 	}
 }
 
-// deliver makes one transaction of another replica visible, if one can.
-func (w *walk) deliver(i int) {
-	for range len(w.history) {
-		m := w.history[w.pick(len(w.history))]
-		v := w.visible(i)
-		can := m.dot.Seq == v[m.dot.Replica]+1
-		for j := range v {
-			can = can && m.saw[j] <= v[j]
-		}
-		if can {
-			writes := record.Writes{}
-			for _, d := range m.deeds {
-				place := record.Place{Key: d.key}
-				if d.key[0] == 's' {
-					place.Element = d.text
-				}
-				writes.Put(place, record.Write{Kind: d.kind, Amount: d.amount, Value: d.text})
-			}
-			w.replicas[i].store.Apply(record.Transaction{Dot: m.dot, Saw: m.saw, Writes: writes})
-			return
+// send has a replica answer the summary of any one.
+func (w *walk) send(from, to int) {
+	words, err := w.replicas[from].Answer(w.replicas[to].Summary())
+	if err != api.OK {
+		w.t.Fatalf("Answer = %d", err)
+	}
+	s, known := sent{words: words}, w.visible(to)
+	for _, m := range w.visibleTo(w.visible(from)) {
+		if !known.Covers(m.dot) {
+			s.has = append(s.has, m)
 		}
 	}
+	w.texts = append(w.texts, s)
+}
+
+// receive has a replica receive a text, whomever it was meant for.
+func (w *walk) receive(i int, s sent) {
+	visible := w.visible(i)
+	for again := true; again; {
+		again = false
+		for _, m := range s.has {
+			if m.dot.Seq == visible[m.dot.Replica]+1 && covers(visible, m.saw) {
+				visible[m.dot.Replica]++
+				again = true
+			}
+		}
+	}
+	if err := w.replicas[i].Receive(s.words); err != api.OK {
+		w.t.Fatalf("Receive = %d", err)
+	}
+	if got := w.visible(i); got != visible {
+		w.t.Fatalf("replica %d has received what makes %v visible, and tells %v", i, visible, got)
+	}
+}
+
+func covers(visible, saw record.Vector) bool {
+	for i := range saw {
+		if saw[i] > visible[i] {
+			return false
+		}
+	}
+	return true
 }
 
 func (w *walk) step() {
 	i := w.pick(len(w.replicas))
 	tx := w.pick(api.MaxOpen)
 	_, open := w.open[i][tx]
-	switch choice := w.pick(10); {
-	case choice == 0:
-		w.deliver(i)
+	switch choice := w.pick(12); {
+	case choice == 10:
+		w.send(i, w.pick(len(w.replicas)))
+	case choice == 11 && len(w.texts) > 0:
+		w.receive(i, w.texts[w.pick(len(w.texts))])
 	case choice <= 2 || !open:
 		w.begin(i)
 	case choice == 3:
@@ -264,16 +293,34 @@ func (w *walk) compare() {
 	}
 }
 
+// settle has all hear of all, whereupon they must tell the same.
+func (w *walk) settle() {
+	settles(w.t, w.replicas)
+	for i, r := range w.replicas {
+		if got := len(w.visibleTo(w.visible(i))); got != len(w.history) {
+			w.t.Fatalf("at replica %d are visible %d of %d", i, got, len(w.history))
+		}
+		for tx := range w.open[i] {
+			w.abort(i, tx)
+		}
+		tx := begin(w.t, r, 0)
+		w.open[i][tx] = modelled{saw: w.visible(i)}
+	}
+	w.compare()
+}
+
 func TestModel(t *testing.T) {
-	for seed := range uint32(40) {
+	for seed := range uint32(60) {
 		w := &walk{t: t, seed: seed}
-		for i := range 3 {
-			w.replicas = append(w.replicas, newReplica(t, i, 3))
+		replicas := 1 + int(seed)%api.MaxReplicas
+		for i := range replicas {
+			w.replicas = append(w.replicas, newReplica(t, i, replicas))
 			w.open = append(w.open, map[int]modelled{})
 		}
-		for range 400 {
+		for range 150 * replicas {
 			w.step()
 			w.compare()
 		}
+		w.settle()
 	}
 }

@@ -1,15 +1,11 @@
 // Package record: what transactions are made of.
 package record
 
-import "chorus/api"
+import (
+	"cmp"
 
-// Vector tells of each replica how many of its transactions are meant: the numbers 1 to that one. It stays 0 behind the group's last replica.
-type Vector [api.MaxReplicas]int
-
-// Covers tells whether a transaction is among those that the vector means.
-func (v Vector) Covers(dot api.Dot) bool {
-	return dot.Seq <= v[dot.Replica]
-}
+	"chorus/api"
+)
 
 // Place is what one write can change: an element of a set, or a whole counter or register (Element is then empty).
 type Place struct {
@@ -49,4 +45,27 @@ type Transaction struct {
 	Dot    api.Dot
 	Saw    Vector
 	Writes Writes
+}
+
+// InOrder compares dots: by replica, then by number.
+func InOrder(a, b api.Dot) int {
+	return cmp.Or(cmp.Compare(a.Replica, b.Replica), cmp.Compare(a.Seq, b.Seq))
+}
+
+// CanFollow tells whether the transaction can become visible where that much is: it is not yet, and its replica's earlier ones and all that it saw are.
+func (t Transaction) CanFollow(visible Vector) bool {
+	return t.Dot.Seq == visible[t.Dot.Replica]+1 && visible.Includes(t.Saw)
+}
+
+// Needs tells of each transaction of a list in the order of the dots what must be visible ahead of it: what it saw, its replica's earlier ones, and what those saw, as far as they stand in the list. (One that began early and was committed late may have seen less than its replica's earlier ones.)
+func Needs(list []Transaction) []Vector {
+	var needs []Vector
+	var latest [api.MaxReplicas]Vector
+	for _, t := range list {
+		need := latest[t.Dot.Replica].Join(t.Saw)
+		need[t.Dot.Replica] = t.Dot.Seq - 1
+		latest[t.Dot.Replica] = need
+		needs = append(needs, need)
+	}
+	return needs
 }

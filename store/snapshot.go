@@ -1,7 +1,6 @@
 package store
 
 import (
-	"cmp"
 	"slices"
 
 	"chorus/api"
@@ -77,15 +76,11 @@ func (n *Snapshot) told(place record.Place) []api.Dot {
 			list = append(list, dot)
 		}
 	}
-	slices.SortFunc(list, inOrder)
+	slices.SortFunc(list, record.InOrder)
 	return list
 }
 
 func (n *Snapshot) reads(x name) bool {
 	v := n.store.versions[x]
 	return n.saw.Covers(x.came) && (v.stands() || !n.saw.Covers(v.went))
-}
-
-func inOrder(a, b api.Dot) int {
-	return cmp.Or(cmp.Compare(a.Replica, b.Replica), cmp.Compare(a.Seq, b.Seq))
 }
