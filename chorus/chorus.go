@@ -18,7 +18,8 @@ type Replica struct {
 	replica, replicas int
 	store             *store.Store
 	held              held.Log
-	open              [api.MaxOpen]*transaction // by their numbers; nil where none is open
+	known             [api.MaxReplicas]record.Vector // what texts told of the others: visible there at least
+	open              [api.MaxOpen]*transaction      // by their numbers; nil where none is open
 }
 
 // New makes a replica (P2).
@@ -153,6 +154,7 @@ func (r *Replica) Answer(summary string) (string, api.Errno) {
 	if err != api.OK {
 		return "", err
 	}
+	r.learn(from)
 	return text.WriteAnswer(r.replicas, text.Answer{Head: r.head(), Transactions: r.held.Beyond(from.Visible)}), api.OK
 }
 
@@ -162,6 +164,7 @@ func (r *Replica) Receive(answer string) api.Errno {
 	if err != api.OK {
 		return err
 	}
+	r.learn(from.Head)
 	for t := range arrival.InOrder(from.Transactions) {
 		if t.CanFollow(r.store.Visible()) {
 			r.show(t)
@@ -171,10 +174,14 @@ func (r *Replica) Receive(answer string) api.Errno {
 }
 
 // Prune lets go of what all others have (P10).
-func (r *Replica) Prune() int { return 0 }
+func (r *Replica) Prune() int {
+	return r.held.LetGo(r.everywhere())
+}
 
 // Held tells how many transactions are held (P10).
-func (r *Replica) Held() int { return 0 }
+func (r *Replica) Held() int {
+	return r.held.Count()
+}
 
 // find gives the open transaction of that number, nil if there is none.
 func (r *Replica) find(tx int) *transaction {
@@ -197,6 +204,22 @@ func (r *Replica) head() text.Head {
 func (r *Replica) show(t record.Transaction) {
 	r.store.Apply(t)
 	r.held.Add(t)
+}
+
+// learn takes what a text tells of the replica that gave it: joined to what was known, as an older text may come late.
+func (r *Replica) learn(giver text.Head) {
+	r.known[giver.Replica] = r.known[giver.Replica].Join(giver.Visible)
+}
+
+// everywhere is what is visible at every replica, as far as this one knows. Of itself it knows more than its texts tell.
+func (r *Replica) everywhere() record.Vector {
+	v := r.store.Visible()
+	for replica, there := range r.known[:r.replicas] {
+		if replica != r.replica {
+			v = v.Meet(there)
+		}
+	}
+	return v
 }
 
 // readText runs a reader of texts, and answers ErrText if it gives up.

@@ -110,20 +110,34 @@ func read(visible []modelled, own modelled, key string) api.Value {
 var modelKeys = []string{"c", "c1", "r", "r1", "s", "s1"}
 var modelElements = []string{"", "a", "b", "\xff"}
 
-// sent is a text that is under way; it may be received never, or often.
+// sent is a text that is under way; it may come never, late, or often. A summary has no transactions.
 type sent struct {
-	words string
-	has   []modelled
+	words  string
+	giver  int
+	vector record.Vector
+	has    []modelled
 }
 
 // walk is one run of a group against the model.
 type walk struct {
-	t        *testing.T
-	seed     uint32
-	replicas []*Replica
-	open     []map[int]modelled
-	history  []modelled // in the order of the dots
-	texts    []sent
+	t         *testing.T
+	seed      uint32
+	replicas  []*Replica
+	open      []map[int]modelled
+	held      []map[api.Dot]bool
+	came      [][]sent   // to each replica, all that told it of another one
+	history   []modelled // in the order of the dots
+	summaries []sent
+	answers   []sent
+}
+
+func newWalk(t *testing.T, seed uint32, replicas int) *walk {
+	w := &walk{t: t, seed: seed, replicas: group(t, replicas), came: make([][]sent, replicas)}
+	for range replicas {
+		w.open = append(w.open, map[int]modelled{})
+		w.held = append(w.held, map[api.Dot]bool{})
+	}
+	return w
 }
 
 // pick is a fixed run of numbers, so that a failure can be had again.
@@ -199,6 +213,7 @@ func (w *walk) commit(i, tx int) {
 		w.t.Fatalf("Commit(%d) = %v, %d, want %v", tx, dot, err, want)
 	}
 	if m.dot = dot; len(m.deeds) > 0 {
+		w.held[i][dot] = true
 		w.history = append(w.history, m)
 		slices.SortFunc(w.history, func(a, b modelled) int {
 			return (a.dot.Replica-b.dot.Replica)*1000000 + a.dot.Seq - b.dot.Seq
@@ -213,22 +228,35 @@ func (w *walk) abort(i, tx int) {
 	}
 }
 
-// send has a replica answer the summary of any one.
-func (w *walk) send(from, to int) {
-	words, err := w.replicas[from].Answer(w.replicas[to].Summary())
+func (w *walk) summary(i int) sent {
+	s := sent{words: w.replicas[i].Summary(), giver: i, vector: w.visible(i)}
+	w.summaries = append(w.summaries, s)
+	return s
+}
+
+// answer has a replica answer a summary, whenever that was made.
+func (w *walk) answer(i int, to sent) sent {
+	words, err := w.replicas[i].Answer(to.words)
 	if err != api.OK {
 		w.t.Fatalf("Answer = %d", err)
 	}
-	s, known := sent{words: words}, w.visible(to)
-	for _, m := range w.visibleTo(w.visible(from)) {
-		if !known.Covers(m.dot) {
+	w.came[i] = append(w.came[i], to)
+	s := sent{words: words, giver: i, vector: w.visible(i)}
+	var dots []api.Dot
+	for _, m := range w.history {
+		if w.held[i][m.dot] && !to.vector.Covers(m.dot) {
 			s.has = append(s.has, m)
+			dots = append(dots, m.dot)
 		}
 	}
-	w.texts = append(w.texts, s)
+	if got := dotsIn(words, len(w.replicas)); !slices.Equal(got, dots) {
+		w.t.Fatalf("replica %d answers %v, want %v", i, got, dots)
+	}
+	w.answers = append(w.answers, s)
+	return s
 }
 
-// receive has a replica receive a text, whomever it was meant for.
+// receive has a replica receive an answer, whomever it was meant for.
 func (w *walk) receive(i int, s sent) {
 	visible := w.visible(i)
 	for again := true; again; {
@@ -236,6 +264,7 @@ func (w *walk) receive(i int, s sent) {
 		for _, m := range s.has {
 			if m.dot.Seq == visible[m.dot.Replica]+1 && covers(visible, m.saw) {
 				visible[m.dot.Replica]++
+				w.held[i][m.dot] = true
 				again = true
 			}
 		}
@@ -243,8 +272,37 @@ func (w *walk) receive(i int, s sent) {
 	if err := w.replicas[i].Receive(s.words); err != api.OK {
 		w.t.Fatalf("Receive = %d", err)
 	}
+	w.came[i] = append(w.came[i], s)
 	if got := w.visible(i); got != visible {
 		w.t.Fatalf("replica %d has received what makes %v visible, and tells %v", i, visible, got)
+	}
+}
+
+func (w *walk) hears(i, other int) {
+	w.receive(i, w.answer(other, w.summary(i)))
+}
+
+// knows tells whether a replica knows that a transaction is visible at another one.
+func (w *walk) knows(i, other int, dot api.Dot) bool {
+	return slices.ContainsFunc(w.came[i], func(s sent) bool {
+		return s.giver == other && s.vector.Covers(dot)
+	})
+}
+
+func (w *walk) prune(i int) {
+	gone := 0
+	for dot := range w.held[i] {
+		everywhere := true
+		for other := range w.replicas {
+			everywhere = everywhere && (other == i || w.knows(i, other, dot))
+		}
+		if everywhere {
+			delete(w.held[i], dot)
+			gone++
+		}
+	}
+	if got := w.replicas[i].Prune(); got != gone {
+		w.t.Fatalf("replica %d has let go of %d, want %d", i, got, gone)
 	}
 }
 
@@ -257,70 +315,103 @@ func covers(visible, saw record.Vector) bool {
 	return true
 }
 
-func (w *walk) step() {
-	i := w.pick(len(w.replicas))
+// step does anything at any replica, and tells at which.
+func (w *walk) step() int {
+	i, other := w.pick(len(w.replicas)), w.pick(len(w.replicas))
 	tx := w.pick(api.MaxOpen)
 	_, open := w.open[i][tx]
-	switch choice := w.pick(12); {
-	case choice == 10:
-		w.send(i, w.pick(len(w.replicas)))
-	case choice == 11 && len(w.texts) > 0:
-		w.receive(i, w.texts[w.pick(len(w.texts))])
-	case choice <= 2 || !open:
+	switch choice := w.pick(20); {
+	case choice == 0:
+		w.answer(i, w.summary(other))
+	case choice == 1 && len(w.summaries) > 0:
+		w.answer(i, w.summaries[w.pick(len(w.summaries))])
+	case choice == 2 && len(w.answers) > 0:
+		w.receive(i, w.answers[w.pick(len(w.answers))])
+	case choice <= 5:
+		w.hears(i, other)
+	case choice == 6:
+		w.prune(i)
+	case !open:
 		w.begin(i)
-	case choice == 3:
+	case choice <= 8:
 		w.commit(i, tx)
-	case choice == 4 && w.pick(3) == 0:
+	case choice == 9 && w.pick(3) == 0:
 		w.abort(i, tx)
+	case choice == 10:
+		w.begin(i)
 	default:
 		w.write(i, tx)
 	}
+	return i
 }
 
-func (w *walk) compare() {
-	for i, r := range w.replicas {
-		for tx, own := range w.open[i] {
-			visible := w.visibleTo(own.saw)
-			for _, key := range modelKeys {
-				want := read(visible, own, key)
-				got, err := r.Read(tx, key)
-				if err != api.OK || got.Sum != want.Sum || !slices.Equal(got.List, want.List) {
-					w.t.Fatalf("replica %d reads %q as %d %q, want %d %q", i, key, got.Sum, got.List, want.Sum, want.List)
-				}
-				overwriteStrings(got.List)
+// compare holds a replica against the model.
+func (w *walk) compare(i int) {
+	holds(w.t, w.replicas[i], len(w.held[i]))
+	for tx, own := range w.open[i] {
+		visible := w.visibleTo(own.saw)
+		for _, key := range modelKeys {
+			want := read(visible, own, key)
+			got, err := w.replicas[i].Read(tx, key)
+			if err != api.OK || got.Sum != want.Sum || !slices.Equal(got.List, want.List) {
+				w.t.Fatalf("replica %d reads %q as %d %q, want %d %q", i, key, got.Sum, got.List, want.Sum, want.List)
+			}
+			overwriteStrings(got.List)
+		}
+	}
+}
+
+func (w *walk) compareAll() {
+	for i := range w.replicas {
+		w.compare(i)
+	}
+}
+
+// round has of each two replicas one hear of the other one, each way.
+func (w *walk) round() {
+	for i := range w.replicas {
+		for other := range w.replicas {
+			if i != other {
+				w.hears(i, other)
 			}
 		}
 	}
 }
 
-// settle has all hear of all, whereupon they must tell the same.
+// settle has all hear of all, whereupon they must tell the same, and hold nothing.
 func (w *walk) settle() {
-	settles(w.t, w.replicas)
-	for i, r := range w.replicas {
+	w.round()
+	w.round()
+	for i := range w.replicas {
 		if got := len(w.visibleTo(w.visible(i))); got != len(w.history) {
 			w.t.Fatalf("at replica %d are visible %d of %d", i, got, len(w.history))
 		}
-		for tx := range w.open[i] {
-			w.abort(i, tx)
-		}
-		tx := begin(w.t, r, 0)
-		w.open[i][tx] = modelled{saw: w.visible(i)}
 	}
-	w.compare()
+	w.round()
+	for i, r := range w.replicas {
+		w.prune(i)
+		holds(w.t, r, 0)
+	}
+	w.compareAll() // what was open all the while
+	for i := range w.replicas {
+		if len(w.open[i]) == api.MaxOpen {
+			w.abort(i, 0)
+		}
+		w.begin(i)
+	}
+	w.compareAll()
 }
 
 func TestModel(t *testing.T) {
 	for seed := range uint32(60) {
-		w := &walk{t: t, seed: seed}
 		replicas := 1 + int(seed)%api.MaxReplicas
-		for i := range replicas {
-			w.replicas = append(w.replicas, newReplica(t, i, replicas))
-			w.open = append(w.open, map[int]modelled{})
+		w := newWalk(t, seed, replicas)
+		for range 3 {
+			for range 60 * replicas {
+				w.compare(w.step())
+			}
+			w.compareAll()
+			w.settle()
 		}
-		for range 150 * replicas {
-			w.step()
-			w.compare()
-		}
-		w.settle()
 	}
 }

@@ -8,7 +8,7 @@ import (
 	"chorus/record"
 )
 
-// Log has of each replica the transactions that are visible, in the order of their numbers.
+// Log has of each replica the last ones of the transactions that are visible, in the order of their numbers.
 type Log struct {
 	lists [api.MaxReplicas][]record.Transaction
 }
@@ -22,8 +22,34 @@ func (l *Log) Add(t record.Transaction) {
 func (l *Log) Beyond(v record.Vector) []record.Transaction {
 	var beyond []record.Transaction
 	for _, list := range l.lists {
-		first := sort.Search(len(list), func(i int) bool { return !v.Covers(list[i].Dot) })
-		beyond = append(beyond, list[first:]...)
+		beyond = append(beyond, list[covered(list, v):]...)
 	}
 	return beyond
+}
+
+// LetGo drops those that a vector covers, and tells how many these were.
+func (l *Log) LetGo(v record.Vector) int {
+	gone := 0
+	for replica, list := range l.lists {
+		if count := covered(list, v); count > 0 {
+			gone += count
+			// A piece of the list would keep the memory of what is dropped.
+			l.lists[replica] = append([]record.Transaction(nil), list[count:]...)
+		}
+	}
+	return gone
+}
+
+// Count tells how many there are.
+func (l *Log) Count() int {
+	count := 0
+	for _, list := range l.lists {
+		count += len(list)
+	}
+	return count
+}
+
+// covered tells how many a vector covers of one replica's list; they stand at its start.
+func covered(list []record.Transaction, v record.Vector) int {
+	return sort.Search(len(list), func(i int) bool { return !v.Covers(list[i].Dot) })
 }

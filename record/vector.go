@@ -28,6 +28,14 @@ func (v Vector) Join(other Vector) Vector {
 	return v
 }
 
+// Meet means what both vectors mean.
+func (v Vector) Meet(other Vector) Vector {
+	for replica, seq := range other {
+		v[replica] = min(v[replica], seq)
+	}
+	return v
+}
+
 // Count tells how many transactions are meant.
 func (v Vector) Count() int {
 	count := 0

@@ -39,7 +39,7 @@ func TestIncludes(t *testing.T) {
 	}
 }
 
-func TestJoinAndCount(t *testing.T) {
+func TestJoinMeetCount(t *testing.T) {
 	a, b := Vector{2, 0, 5}, Vector{1, 3, 5, 0, 7}
 	want := Vector{2, 3, 5, 0, 7}
 	if got := a.Join(b); got != want {
@@ -48,8 +48,12 @@ func TestJoinAndCount(t *testing.T) {
 	if got := b.Join(a); got != want {
 		t.Errorf("%v and %v join to %v, want %v", b, a, got, want)
 	}
+	both := Vector{1, 0, 5}
+	if got, back := a.Meet(b), b.Meet(a); got != both || back != both {
+		t.Errorf("%v and %v meet in %v, %v, want %v", a, b, got, back, both)
+	}
 	if a != (Vector{2, 0, 5}) {
-		t.Errorf("joining has changed a vector to %v", a)
+		t.Errorf("joining or meeting has changed a vector to %v", a)
 	}
 	if got := want.Count(); got != 17 {
 		t.Errorf("%v counts %d", want, got)
